@@ -1,0 +1,1 @@
+"""Sameanswer: a relational database that commits what would be answered again."""

@@ -1,0 +1,99 @@
+"""The form of the package: its files, what they define, and the limits on sizes and characters."""
+
+import ast
+import doctest
+import inspect
+import os
+import unittest
+
+import sameanswer
+from sameanswer import errors, keys, pages
+
+FOLDER = os.path.dirname(sameanswer.__file__)
+MODULES = {"errors": errors, "keys": keys, "pages": pages}
+FUNCTIONS = {
+    "keys": {
+        "key_of": ["values"], "values_of": ["key"], "prefix_range": ["key"], "is_in": ["key", "span"],
+        "meet": ["first", "second"], "row_order": ["values"],
+    },
+    "pages": {"write_page": ["page"], "read_page": ["data"]},
+}
+CLASSES = {
+    "errors": {
+        "AnswerError": {}, "Refused": {"__init__": ["self", "problem"]}, "InvalidArgument": {}, "TransactionOpen": {},
+        "NoTransaction": {}, "DiskFull": {}, "PowerOff": {}, "DatabaseOpen": {}, "DatabaseClosed": {},
+        "DamagedData": {},
+    },
+}
+
+
+def sources():
+    """The text of each file of the package."""
+    found = {}
+    for name in sorted(os.listdir(FOLDER)):
+        if name != "__pycache__":
+            with open(os.path.join(FOLDER, name), encoding="utf-8") as file:
+                found[name] = file.read()
+    return found
+
+
+class Interface(unittest.TestCase):
+    def test_functions_stand_in_their_files_with_their_arguments(self):
+        for module, functions in FUNCTIONS.items():
+            for name, arguments in functions.items():
+                found = getattr(MODULES[module], name)
+                self.assertEqual(found.__module__, f"sameanswer.{module}")
+                self.assertEqual(list(inspect.signature(found).parameters), arguments, name)
+
+    def test_classes_stand_in_their_files_with_their_own_methods(self):
+        for module, classes in CLASSES.items():
+            for name, methods in classes.items():
+                found = getattr(MODULES[module], name)
+                self.assertEqual(found.__module__, f"sameanswer.{module}")
+                for method, arguments in methods.items():
+                    self.assertEqual(list(inspect.signature(vars(found)[method]).parameters), arguments, name)
+
+
+class Files(unittest.TestCase):
+    def test_the_package_has_only_python_files(self):
+        self.assertEqual([name for name in sources() if not name.endswith(".py")], [])
+        self.assertIn("__init__.py", sources())
+
+    def test_characters_and_sizes(self):
+        for name, text in sources().items():
+            lines = text.split("\n")
+            self.assertLess(len(lines), 400, name)
+            self.assertLessEqual(max(len(line) for line in lines), 120, name)
+            self.assertEqual({c for c in text if c != "\n" and not " " <= c <= "~"}, set(), name)
+
+    def test_functions_have_at_most_40_lines(self):
+        for name, text in sources().items():
+            for node in ast.walk(ast.parse(text)):
+                if isinstance(node, ast.FunctionDef):
+                    self.assertLessEqual(node.end_lineno - node.lineno + 1, 40, (name, node.name))
+
+    def test_imports_are_from_the_package_or_the_allowed_library(self):
+        for name, text in sources().items():
+            for node in ast.walk(ast.parse(text)):
+                self.assertNotIsInstance(node, ast.Import, name)
+                if isinstance(node, ast.ImportFrom):
+                    first = node.module.split(".")[0]
+                    self.assertIn(first, ("sameanswer", "heapq", "math", "itertools", "collections"), name)
+                    self.assertEqual(node.level, 0, name)
+
+    def test_strings_have_no_percent_sign(self):
+        for name, text in sources().items():
+            for node in ast.walk(ast.parse(text)):
+                if isinstance(node, ast.Constant) and isinstance(node.value, str):
+                    self.assertNotIn("%", node.value, name)
+
+
+class Readme(unittest.TestCase):
+    def test_the_examples_of_the_readme(self):
+        told = doctest.testfile(os.path.join(os.path.dirname(FOLDER), "README.md"), module_relative=False)
+        self.assertEqual(told.failed, 0)
+        self.assertGreater(told.attempted, 0)
+
+
+if __name__ == "__main__":
+    unittest.main()
