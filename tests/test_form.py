@@ -7,16 +7,17 @@ import os
 import unittest
 
 import sameanswer
-from sameanswer import errors, keys, pages
+from sameanswer import disk, errors, keys, pages, store, trees
 
 FOLDER = os.path.dirname(sameanswer.__file__)
-MODULES = {"errors": errors, "keys": keys, "pages": pages}
+MODULES = {"errors": errors, "keys": keys, "pages": pages, "trees": trees, "disk": disk, "store": store}
 FUNCTIONS = {
     "keys": {
         "key_of": ["values"], "values_of": ["key"], "prefix_range": ["key"], "is_in": ["key", "span"],
         "meet": ["first", "second"], "row_order": ["values"],
     },
     "pages": {"write_page": ["page"], "read_page": ["data"]},
+    "store": {"head": ["commits", "root"], "read_head": ["sector"], "found": ["disk"]},
 }
 CLASSES = {
     "errors": {
@@ -24,6 +25,20 @@ CLASSES = {
         "NoTransaction": {}, "DiskFull": {}, "PowerOff": {}, "DatabaseOpen": {}, "DatabaseClosed": {},
         "DamagedData": {},
     },
+    "trees": {
+        "Tree": {
+            "__init__": ["self", "root", "pages"], "get": ["self", "key"], "scan": ["self", "span"],
+            "numbers": ["self"], "changed": ["self", "changes", "free"],
+        },
+    },
+    "disk": {
+        "Disk": {
+            "__init__": ["self", "sectors"], "size": ["self"], "read": ["self", "index"], "pending": ["self"],
+            "counts": ["self"], "write": ["self", "index", "data"], "sync": ["self"],
+            "fail_after": ["self", "operations"], "power": ["self", "kept"], "is_on": ["self"], "losses": ["self"],
+        },
+    },
+    "store": {"Store": {"__init__": ["self", "disk"], "commit": ["self", "changes"]}},
 }
 
 
@@ -52,6 +67,13 @@ class Interface(unittest.TestCase):
                 self.assertEqual(found.__module__, f"sameanswer.{module}")
                 for method, arguments in methods.items():
                     self.assertEqual(list(inspect.signature(vars(found)[method]).parameters), arguments, name)
+
+
+    def test_attributes_are_set_when_an_object_is_created(self):
+        made = disk.Disk(100)
+        self.assertIn("in_use", vars(made))
+        self.assertLessEqual({"root", "pages"}, set(vars(trees.Tree(None, {}))))
+        self.assertLessEqual({"commits", "tree"}, set(vars(store.Store(made))))
 
 
 class Files(unittest.TestCase):
