@@ -7,10 +7,13 @@ import os
 import unittest
 
 import sameanswer
-from sameanswer import disk, errors, keys, pages, store, trees
+from sameanswer import catalog, disk, errors, keys, looks, pages, queries, store, trees
 
 FOLDER = os.path.dirname(sameanswer.__file__)
-MODULES = {"errors": errors, "keys": keys, "pages": pages, "trees": trees, "disk": disk, "store": store}
+MODULES = {
+    "errors": errors, "keys": keys, "pages": pages, "trees": trees, "disk": disk, "store": store, "looks": looks,
+    "catalog": catalog, "queries": queries,
+}
 FUNCTIONS = {
     "keys": {
         "key_of": ["values"], "values_of": ["key"], "prefix_range": ["key"], "is_in": ["key", "span"],
@@ -18,6 +21,14 @@ FUNCTIONS = {
     },
     "pages": {"write_page": ["page"], "read_page": ["data"]},
     "store": {"head": ["commits", "root"], "read_head": ["sector"], "found": ["disk"]},
+    "catalog": {
+        "table": ["look", "name"], "indexes": ["look", "name"], "row_key": ["name", "values"],
+        "index_key": ["name", "index", "values"], "row_changes": ["name", "shape", "found", "row", "present"],
+    },
+    "queries": {
+        "check_query": ["look", "query"], "plans": ["look", "query"], "chosen": ["plans_list"],
+        "run_plan": ["look", "query", "plan"], "answer": ["look", "query"], "plain": ["look", "query"],
+    },
 }
 CLASSES = {
     "errors": {
@@ -39,6 +50,12 @@ CLASSES = {
         },
     },
     "store": {"Store": {"__init__": ["self", "disk"], "commit": ["self", "changes"]}},
+    "looks": {
+        "Look": {
+            "__init__": ["self", "tree", "changes"], "get": ["self", "key"], "scan": ["self", "span"],
+            "looks": ["self"],
+        },
+    },
 }
 
 
