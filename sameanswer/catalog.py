@@ -63,14 +63,20 @@ def row_key_behind(name, index, columns, key):
     return row_key(name, ()) + key[at:]
 
 
-def row_changes(name, shape, found, row, present):
-    """The list of the changes, not ordered, that put a row and its entries in the indexes in, or remove them."""
-    key_values = row[:shape[0]]
-    changes = [(row_key(name, key_values), row if present else None)]
+def entry_keys(name, shape, found, row):
+    """The list of the keys of the entries of a row in the indexes."""
+    entries = []
     for index, columns in found.items():
         values = tuple([row[column] for column in columns])
-        changes.append((index_key(name, index, values + key_values), () if present else None))
-    return changes
+        entries.append(index_key(name, index, values + row[:shape[0]]))
+    return entries
+
+
+def row_changes(name, shape, found, row, present):
+    """The list of the changes, not ordered, that put a row and its entries in the indexes in, or remove them."""
+    entries = entry_keys(name, shape, found, row)
+    changes = [(row_key(name, row[:shape[0]]), row if present else None)]
+    return changes + [(key, () if present else None) for key in entries]
 
 
 def kind_of(value):

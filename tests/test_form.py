@@ -7,12 +7,15 @@ import os
 import unittest
 
 import sameanswer
-from sameanswer import catalog, disk, errors, keys, looks, pages, queries, store, trees
+from sameanswer import (
+    catalog, database, disk, errors, keys, looks, pages, queries, statements, store, transactions, trees, views,
+)
 
 FOLDER = os.path.dirname(sameanswer.__file__)
 MODULES = {
     "errors": errors, "keys": keys, "pages": pages, "trees": trees, "disk": disk, "store": store, "looks": looks,
-    "catalog": catalog, "queries": queries,
+    "catalog": catalog, "queries": queries, "statements": statements, "transactions": transactions, "views": views,
+    "database": database,
 }
 FUNCTIONS = {
     "keys": {
@@ -29,6 +32,8 @@ FUNCTIONS = {
         "check_query": ["look", "query"], "plans": ["look", "query"], "chosen": ["plans_list"],
         "run_plan": ["look", "query", "plan"], "answer": ["look", "query"], "plain": ["look", "query"],
     },
+    "statements": {"say": ["look", "statement"]},
+    "transactions": {"differing": ["first", "second"]},
 }
 CLASSES = {
     "errors": {
@@ -55,6 +60,21 @@ CLASSES = {
             "__init__": ["self", "tree", "changes"], "get": ["self", "key"], "scan": ["self", "span"],
             "looks": ["self"],
         },
+    },
+    "transactions": {
+        "Transaction": {"__init__": ["self", "tree"], "run": ["self", "statement"], "again": ["self", "tree"]},
+    },
+    "views": {"View": {"__init__": ["self", "tree", "query"], "ask": ["self", "tree"]}},
+    "database": {
+        "Database": {
+            "__init__": ["self", "disk"], "session": ["self"], "commits": ["self"], "entries": ["self"],
+            "pages": ["self"], "view": ["self", "query"],
+        },
+        "Session": {
+            "run": ["self", "statement"], "begin": ["self"], "commit": ["self"], "rollback": ["self"],
+            "reruns": ["self"],
+        },
+        "KeptView": {"ask": ["self"], "runs": ["self"]},
     },
 }
 
@@ -85,12 +105,14 @@ class Interface(unittest.TestCase):
                 for method, arguments in methods.items():
                     self.assertEqual(list(inspect.signature(vars(found)[method]).parameters), arguments, name)
 
-
     def test_attributes_are_set_when_an_object_is_created(self):
         made = disk.Disk(100)
         self.assertIn("in_use", vars(made))
         self.assertLessEqual({"root", "pages"}, set(vars(trees.Tree(None, {}))))
         self.assertLessEqual({"commits", "tree"}, set(vars(store.Store(made))))
+        tree = trees.Tree(None, {}).changed([((1, 128, 0, 0, 0, 0, 2, 116, 0), (1, 0))], [2])[0]
+        self.assertIn("reruns", vars(transactions.Transaction(tree)))
+        self.assertIn("runs", vars(views.View(tree, ("select", ("count",), (("s", "t"),), ()))))
 
 
 class Files(unittest.TestCase):
