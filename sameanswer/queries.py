@@ -145,7 +145,7 @@ def ways_of(source, givers):
     """The list of the ways to find the rows of a source, in their order."""
     _, shape, found = source
     ways = [("table",)]
-    for count in range(1, given_count(range(shape[0]), givers) + 1):
+    for count in range(1, given_count(list(range(shape[0])), givers) + 1):
         ways.append(("key", count))
     for index in sorted(found):
         for count in range(1, given_count(found[index], givers) + 1):
@@ -195,7 +195,7 @@ def rows_by(look, source, way, givers, choice):
         entries = look.scan(span)
         return [look.get(row_key_behind(name, index, columns, key)) for key, _ in entries]
     count = way[1] if way[0] == "key" else 0
-    span = prefix_range(row_key(name, given_values(range(count), givers, choice)))
+    span = prefix_range(row_key(name, given_values(list(range(count)), givers, choice)))
     return [row for _, row in look.scan(span)]
 
 

@@ -7,6 +7,7 @@ import os
 import unittest
 
 import sameanswer
+from iterations import passed_on
 from sameanswer import (
     catalog, database, disk, errors, keys, looks, pages, queries, statements, store, transactions, trees, views,
 )
@@ -147,6 +148,62 @@ class Files(unittest.TestCase):
             for node in ast.walk(ast.parse(text)):
                 if isinstance(node, ast.Constant) and isinstance(node.value, str):
                     self.assertNotIn("%", node.value, name)
+
+    def test_ranges_zips_and_views_are_iterated_and_not_passed_on(self):
+        for name, text in sources().items():
+            self.assertEqual(passed_on(text), [], name)
+
+
+class Iterations(unittest.TestCase):
+    """The search for what is passed on finds it, and finds nothing else."""
+
+    def found(self, rows):
+        """The numbers of the rows, as those of a function, in which something is passed on."""
+        return [line - 1 for line in passed_on("\n".join(["def f(xs, d, k):"] + ["    " + row for row in rows]))]
+
+    def test_what_is_passed_on_is_found(self):
+        for row in (
+            "g(range(k))", "g(k, range(k))", "xs.g(range(k))", "g(n=range(k))", "g(*range(k))", "g(**d, n=range(k))",
+            "g(range(k) if k else xs)", "g(xs or range(k))", "g([range(k)])", "g((k, range(k)))", "g({k: range(k)})",
+            "g(lambda: range(k))", "list(g(range(k)))", "for n in g(range(k)): pass", "[n for n in g(range(k), d)]",
+            "len(xs) + g(range(k))", "return range(k)", "return g(range(k))", "yield range(k)", "xs[0] = range(k)",
+            "self.r = range(k)", "a = b = range(k)", "r: object = range(k)", "g(r := range(k))", "a, *b = range(k)",
+            "xs += range(k)", "xs.extend(range(k))", "map(g, range(k))", "max(range(k), key=g)", "max(k, range(k))",
+            "sum(xs, range(k))", "sep.join(range(k))", "set(range(k))", "range(k) == xs", "g(zip(xs, xs))",
+            "g(enumerate(xs))", "g(reversed(xs))", "g(d.items())", "g(d.keys())", "g(d.values())", "len(zip(xs, xs))",
+            "reversed(d.items())", "k in zip(xs, xs)", "range(k) in xs", "for n in xs: g(range(n))",
+            "xs[0](range(k))", "(lambda r: r)(range(k))", "g(k)(range(k))", "k in range(k) in xs",
+        ):
+            self.assertEqual(self.found([row]), [1], row)
+
+    def test_what_is_kept_and_then_passed_on_is_found(self):
+        for row in ("g(r)", "return r", "xs.append(r)", "g(k, n=r)", "g(*r)", "for n in g(r): pass", "q = r", "[r]"):
+            self.assertEqual(self.found(["r = range(k)", row]), [2], row)
+            self.assertEqual(self.found(["r = d.items()", row]), [2], row)
+        self.assertEqual(self.found(["r = range(k)", "for n in r: pass", "g(r)", "list(r)", "g(r)"]), [3, 5])
+        self.assertEqual(self.found(["if k:", "    r = range(k)", "    for n in xs:", "        g(r, n)"]), [4])
+        self.assertEqual(passed_on("R = range(3)"), [1])
+        self.assertEqual(passed_on("def g(k, r=range(3)): pass"), [1])
+
+    def test_what_is_iterated_at_once_is_not_found(self):
+        for row in (
+            "for n in range(k): g(n)", "[g(n) for n in range(k)]", "{n: k for n in range(k)}", "g(list(range(k)))",
+            "g(tuple(range(k)), k)", "g(sorted(range(k)))", "sum(range(k), 3)", "g(all(n for n in range(k)))",
+            "list(enumerate(range(k)))", "[n for n in zip(range(k), xs)]", "min(range(k))", "max(range(k), default=0)",
+            "k in range(9)", "k not in d.keys()", "len(range(k))", "len(d.items())", "for n in reversed(range(k)): g(n)",
+            "g(sorted(d.items()))", "', '.join(d.values())", "for n in permutations(range(k)): g(n)", "g(range)",
+            "for n, x in enumerate(xs): g(n, x)", "for a, b in zip(xs, xs): g(a, b)", "g(list(reversed(xs)))",
+        ):
+            self.assertEqual(self.found([row]), [], row)
+
+    def test_what_is_kept_and_then_iterated_is_not_found(self):
+        for row in (
+            "for n in r: g(n)", "g(list(r))", "[n for n in r]", "g(len(r))", "g(r[0])", "k in r", "g(k in r, max(r))",
+            "for n in reversed(r): g(n)", "for n in enumerate(r): g(n)", "g(xs)",
+        ):
+            self.assertEqual(self.found(["r = range(k)", row]), [], row)
+        # The same name in another function means something else.
+        self.assertEqual(passed_on("def f(k):\n    r = range(k)\n    return list(r)\ndef h(r):\n    g(r)"), [])
 
 
 class Readme(unittest.TestCase):
